@@ -1,9 +1,10 @@
-"""Promise 1, encode. The words written out below are those of another assembler, GNU as 2.40."""
+"""Promise 1, encode."""
 import re
 import unittest
 
 from oneinstruction.words import encode
 
+# The words of these two lists are those of another assembler, GNU as 2.40; its n of B and J was written as .+n.
 EVERY_ROW = (
     ("lui x5, 74565", 0x123452B7),
     ("auipc x6, 703710", 0xABCDE317),
