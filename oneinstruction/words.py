@@ -1,6 +1,7 @@
 """Instructions as lines of assembler and as words of 32 bits."""
 
 MOST_LINE_BYTES = 255
+GREATEST_MOST = 64
 
 TAB = 9
 BLANK = 32
@@ -61,6 +62,16 @@ KIND = 1
 OP = 2
 F = 3
 G = 4
+
+# The bits of a word that the table fixes, by the kind: op; op and f; or op, f and g.
+FIXED = {
+    "U": 0x0000007F, "J": 0x0000007F,
+    "I": 0x0000707F, "M": 0x0000707F, "S": 0x0000707F, "B": 0x0000707F,
+    "R": 0xFE00707F, "H": 0xFE00707F,
+}
+
+# The lowest bit of d, a and b in a word.
+PLACES = {"d": 7, "a": 15, "b": 20}
 
 # What stands behind the name, by the kind: each sign is one piece of the line, a letter an operand, a mark itself.
 SHAPES = {
@@ -213,9 +224,15 @@ def reaches(kind, n):
 
 def word_of(row, operands):
     """The row's word with these operands; those that its kind hasn't are 0 and leave their bits to n or g."""
-    fixed = row[OP] | row[F] << 12 | row[G] << 25
-    places = operands["d"] << 7 | operands["a"] << 15 | operands["b"] << 20
-    return fixed | places | laid(row[KIND], operands["n"])
+    word = fixed_bits(row) | laid(row[KIND], operands["n"])
+    for letter in PLACES:
+        word = word | operands[letter] << PLACES[letter]
+    return word
+
+
+def fixed_bits(row):
+    """op, f and g of the row where a word has them."""
+    return row[OP] | row[F] << 12 | row[G] << 25
 
 
 def laid(kind, n):
@@ -224,3 +241,54 @@ def laid(kind, n):
     for low, mask, place in RUNS[kind]:
         word = word | (n >> low & mask) << place
     return word
+
+
+def decode(word, most):
+    """How many bytes the canonical line of the word's instruction has, and they; or -1 or -2 alone."""
+    row = row_of(word)
+    if row is None or most < 0 or most > GREATEST_MOST:
+        return [-1]
+    line = spelled(canonical(row, operands_in(row[KIND], word)))
+    if len(line) > most:
+        return [-2]
+    return [len(line)] + line
+
+
+def row_of(word):
+    """The row of the table that the word is an instruction of, or None."""
+    for row in ROWS:
+        if word & FIXED[row[KIND]] == fixed_bits(row):
+            return row
+    return None
+
+
+def operands_in(kind, word):
+    """d, a, b and n of a word of the kind, 0 for those that the kind hasn't."""
+    operands = {"d": 0, "a": 0, "b": 0, "n": gathered(kind, word)}
+    for letter in PLACES:
+        if letter in SHAPES[kind]:
+            operands[letter] = word >> PLACES[letter] & 31
+    return operands
+
+
+def gathered(kind, word):
+    """n from where the kind's words have its bits."""
+    n = 0
+    for low, mask, place in RUNS[kind]:
+        n = n | (word >> place & mask) << low
+    reach = REACHES[kind]
+    # Bits that are worth more than the greatest n are the two's complement of one below 0.
+    return n - 2 * reach[BELOW] if n > reach[ABOVE] else n
+
+
+def canonical(row, operands):
+    """The text of the row's canonical line with these operands."""
+    text = row[NAME] + " "
+    for sign in SHAPES[row[KIND]]:
+        if sign == "n":
+            text = text + str(operands["n"])
+        elif sign in operands:
+            text = text + "x" + str(operands[sign])
+        else:
+            text = text + (", " if sign == "," else sign)
+    return text

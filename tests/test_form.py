@@ -19,6 +19,11 @@ OWN_NAMES = set(
     "len range enumerate zip min max sum abs sorted reversed int str bool list tuple dict set frozenset isinstance ord"
     " repr any all divmod Exception ValueError KeyError IndexError LookupError ZeroDivisionError StopIteration".split()
 )
+OWN_METHODS = set(
+    "append clear copy count endswith extend find get index insert isalnum isalpha isdigit islower isspace isupper"
+    " items join keys ljust lower lstrip partition pop remove replace reverse rfind rjust rpartition rsplit rstrip"
+    " setdefault split splitlines startswith strip update upper values zfill bit_length".split()
+)
 
 
 class Form(unittest.TestCase):
@@ -45,6 +50,27 @@ class Form(unittest.TestCase):
                     self.assertEqual(node.decorator_list, [])
                 if isinstance(node, (ast.For, ast.While)):
                     self.assertEqual(node.orelse, [])
+
+    def test_methods_and_texts_with_names_in_them(self):
+        for path in FILES:
+            for node in ast.walk(ast.parse(path.read_text())):
+                if isinstance(node, ast.Attribute):
+                    self.assertIn(node.attr, OWN_METHODS)
+                if isinstance(node, ast.FormattedValue):
+                    self.assertIsInstance(node.value, ast.Name)
+
+    def test_the_top_of_a_file_holds_plain_values_bound_once(self):
+        for path in FILES:
+            bound = []
+            for node in ast.parse(path.read_text()).body:
+                if isinstance(node, ast.FunctionDef):
+                    bound.append(node.name)
+                elif isinstance(node, ast.Assign):
+                    bound.append(node.targets[0].id)
+                    ast.literal_eval(node.value)
+                else:
+                    self.assertIsInstance(node.value, ast.Constant)
+            self.assertEqual(len(bound), len(set(bound)), path)
 
     def test_the_names_read_are_the_package_s_own_or_allowed(self):
         for path in FILES:
