@@ -292,3 +292,12 @@ def canonical(row, operands):
         else:
             text = text + (", " if sign == "," else sign)
     return text
+
+
+def fields(word):
+    """Which row of the table the word is an instruction of, and its d, a, b and n; or -1 alone."""
+    row = row_of(word)
+    if row is None:
+        return [-1]
+    operands = operands_in(row[KIND], word)
+    return [ROWS.index(row), operands["d"], operands["a"], operands["b"], operands["n"]]

@@ -245,3 +245,26 @@ def some_instructions(count):
     fixed = {"U": 0x7F, "J": 0x7F, "R": 0xFE00707F, "H": 0xFE00707F}
     masks = [fixed.get(kind, 0x707F) for kind, *rest in ROWS.values()]
     return [word & ~masks[turn % 45] | openings[turn % 45] for turn, word in enumerate(some_words(count))]
+
+
+class Watched(list):
+    """A list that can't be changed, not for a while either."""
+
+    def refused(self, *rest, **named):
+        raise AssertionError("the list handed in was changed")
+
+    append = extend = insert = pop = remove = clear = sort = reverse = refused
+    __setitem__ = __delitem__ = __iadd__ = __imul__ = refused
+
+
+def answers_again_and_again(case, function, calls):
+    """What the function answers to the calls; it must be the same in any order and whatever is done to an answer."""
+    first = [list(function(*call)) for call in calls]
+    case.assertEqual([function(*call) for call in calls], first)
+    case.assertEqual([function(*call) for call in reversed(calls)], first[::-1])
+    for call, before in zip(calls, first):
+        given = function(*call)
+        given.append(7)
+        given[0] = 5
+        case.assertEqual(function(*call), before)
+    return first
