@@ -1,4 +1,4 @@
-"""Instructions as lines of assembler and as words of 32 bits."""
+"""Instructions as lines of assembler, as words of 32 bits, and as what they do to registers."""
 
 MOST_LINE_BYTES = 255
 GREATEST_MOST = 64
@@ -63,54 +63,35 @@ OP = 2
 F = 3
 G = 4
 
-# The bits of a word that the table fixes, by the kind: op; op and f; or op, f and g.
-FIXED = {
-    "U": 0x0000007F, "J": 0x0000007F,
-    "I": 0x0000707F, "M": 0x0000707F, "S": 0x0000707F, "B": 0x0000707F,
-    "R": 0xFE00707F, "H": 0xFE00707F,
-}
-
 # The lowest bit of d, a and b in a word.
 PLACES = {"d": 7, "a": 15, "b": 20}
 
-# What stands behind the name, by the kind: each sign is one piece of the line, a letter an operand, a mark itself.
-SHAPES = {
-    "R": "d,a,b",
-    "I": "d,a,n",
-    "M": "d,n(a)",
-    "H": "d,a,n",
-    "S": "b,n(a)",
-    "B": "a,b,n",
-    "U": "d,n",
-    "J": "d,n",
+# By the kind:
+# - what stands behind the name: each sign is one piece of the line, a letter an operand, a mark itself;
+# - the bits of a word that the table fixes: op; op and f; or op, f and g;
+# - how far n may lie below 0, how far above, and what it must be a multiple of; R has no n: there it stays 0;
+# - where n lies in the word, run of bits by run: the run's lowest bit in n, its mask, its lowest bit in the word.
+KINDS = {
+    "R": ("d,a,b", 0xFE00707F, 0, 0, 1, ()),
+    "I": ("d,a,n", 0x0000707F, 2048, 2047, 1, ((0, 4095, 20),)),
+    "M": ("d,n(a)", 0x0000707F, 2048, 2047, 1, ((0, 4095, 20),)),
+    "H": ("d,a,n", 0xFE00707F, 0, 31, 1, ((0, 31, 20),)),
+    "S": ("b,n(a)", 0x0000707F, 2048, 2047, 1, ((5, 127, 25), (0, 31, 7))),
+    "B": ("a,b,n", 0x0000707F, 4096, 4094, 2, ((12, 1, 31), (5, 63, 25), (1, 15, 8), (11, 1, 7))),
+    "U": ("d,n", 0x0000007F, 0, 1048575, 1, ((0, 1048575, 12),)),
+    "J": ("d,n", 0x0000007F, 1048576, 1048574, 2, ((20, 1, 31), (1, 1023, 21), (11, 1, 20), (12, 255, 12))),
 }
+SHAPE = 0
+FIXED = 1
+BELOW = 2
+ABOVE = 3
+MULTIPLE = 4
+RUNS = 5
 
-# How far n may lie below 0, how far above, and what it must be a multiple of. R has no n: there it stays 0.
-REACHES = {
-    "R": (0, 0, 1),
-    "I": (2048, 2047, 1),
-    "M": (2048, 2047, 1),
-    "H": (0, 31, 1),
-    "S": (2048, 2047, 1),
-    "B": (4096, 4094, 2),
-    "U": (0, 1048575, 1),
-    "J": (1048576, 1048574, 2),
-}
-BELOW = 0
-ABOVE = 1
-MULTIPLE = 2
-
-# Where n lies in the word, run of bits by run: the run's lowest bit in n, its mask, its lowest bit in the word.
-RUNS = {
-    "R": (),
-    "I": ((0, 4095, 20),),
-    "M": ((0, 4095, 20),),
-    "H": ((0, 31, 20),),
-    "S": ((5, 127, 25), (0, 31, 7)),
-    "B": ((12, 1, 31), (5, 63, 25), (1, 15, 8), (11, 1, 7)),
-    "U": ((0, 1048575, 12),),
-    "J": ((20, 1, 31), (1, 1023, 21), (11, 1, 20), (12, 255, 12)),
-}
+# The ops of loads and of stores.
+MEMORY_OPS = (3, 35)
+# Registers and pc go round at it.
+MODULUS = 4294967296
 
 
 def encode(line):
@@ -154,7 +135,7 @@ def row_named(pieces):
 
 def operands_of(kind, pieces):
     """d, a, b and n, 0 for those that the kind hasn't; or None if the pieces aren't written as the kind asks."""
-    shape = SHAPES[kind]
+    shape = KINDS[kind][SHAPE]
     if len(pieces) != len(shape):
         return None
     operands = {"d": 0, "a": 0, "b": 0, "n": 0}
@@ -218,8 +199,8 @@ def spelled(text):
 
 def reaches(kind, n):
     """Whether an instruction of the kind can hold n."""
-    reach = REACHES[kind]
-    return -reach[BELOW] <= n <= reach[ABOVE] and n % reach[MULTIPLE] == 0
+    told = KINDS[kind]
+    return -told[BELOW] <= n <= told[ABOVE] and n % told[MULTIPLE] == 0
 
 
 def word_of(row, operands):
@@ -238,7 +219,7 @@ def fixed_bits(row):
 def laid(kind, n):
     """The bits of n where the kind's words have them; of n below 0 those of its two's complement."""
     word = 0
-    for low, mask, place in RUNS[kind]:
+    for low, mask, place in KINDS[kind][RUNS]:
         word = word | (n >> low & mask) << place
     return word
 
@@ -257,7 +238,7 @@ def decode(word, most):
 def row_of(word):
     """The row of the table that the word is an instruction of, or None."""
     for row in ROWS:
-        if word & FIXED[row[KIND]] == fixed_bits(row):
+        if word & KINDS[row[KIND]][FIXED] == fixed_bits(row):
             return row
     return None
 
@@ -266,7 +247,7 @@ def operands_in(kind, word):
     """d, a, b and n of a word of the kind, 0 for those that the kind hasn't."""
     operands = {"d": 0, "a": 0, "b": 0, "n": gathered(kind, word)}
     for letter in PLACES:
-        if letter in SHAPES[kind]:
+        if letter in KINDS[kind][SHAPE]:
             operands[letter] = word >> PLACES[letter] & 31
     return operands
 
@@ -274,17 +255,16 @@ def operands_in(kind, word):
 def gathered(kind, word):
     """n from where the kind's words have its bits."""
     n = 0
-    for low, mask, place in RUNS[kind]:
+    for low, mask, place in KINDS[kind][RUNS]:
         n = n | (word >> place & mask) << low
-    reach = REACHES[kind]
     # Bits that are worth more than the greatest n are the two's complement of one below 0.
-    return n - 2 * reach[BELOW] if n > reach[ABOVE] else n
+    return n - 2 * KINDS[kind][BELOW] if n > KINDS[kind][ABOVE] else n
 
 
 def canonical(row, operands):
     """The text of the row's canonical line with these operands."""
     text = row[NAME] + " "
-    for sign in SHAPES[row[KIND]]:
+    for sign in KINDS[row[KIND]][SHAPE]:
         if sign == "n":
             text = text + str(operands["n"])
         elif sign in operands:
@@ -301,3 +281,114 @@ def fields(word):
         return [-1]
     operands = operands_in(row[KIND], word)
     return [ROWS.index(row), operands["d"], operands["a"], operands["b"], operands["n"]]
+
+
+def step(pc, word, registers):
+    """0, then the registers and pc behind the word's instruction; -1 alone if it's none, -2 if it loads or stores."""
+    row = row_of(word)
+    if row is None:
+        return [-1]
+    if row[OP] in MEMORY_OPS:
+        return [-2]
+    operands = operands_in(row[KIND], word)
+    # x0 is read as 0 whatever stands there.
+    seen = [0] + registers[1:]
+    a = seen[operands["a"]]
+    b = seen[operands["b"]]
+    n = operands["n"]
+    after = list(registers)
+    # Branches have no d: theirs is 0, as x0's, and neither is written.
+    if operands["d"] > 0:
+        after[operands["d"]] = result_of(row, pc, a, b, n) % MODULUS
+    return [0] + after + [pc_after(row, pc, a, b, n) % MODULUS]
+
+
+def signed(value):
+    """The number with a sign that has the value's 32 bits."""
+    return value - MODULUS if value >= MODULUS // 2 else value
+
+
+def pc_after(row, pc, a, b, n):
+    """The next pc, before it goes round."""
+    if row[NAME] == "jalr":
+        return (a + n) // 2 * 2
+    if row[NAME] == "jal" or (row[KIND] == "B" and branches(row[NAME], a, b)):
+        return pc + n
+    return pc + 4
+
+
+def branches(name, a, b):
+    """Whether the branch is taken."""
+    if name == "beq":
+        return a == b
+    if name == "bne":
+        return a != b
+    if name == "blt":
+        return signed(a) < signed(b)
+    if name == "bge":
+        return signed(a) >= signed(b)
+    return a < b if name == "bltu" else a >= b
+
+
+def result_of(row, pc, a, b, n):
+    """What the instruction puts in d, before it goes round."""
+    if row[NAME] == "lui":
+        return n * 4096
+    if row[NAME] == "auipc":
+        return pc + n * 4096
+    if row[NAME] in ("jal", "jalr"):
+        return pc + 4
+    if row[KIND] != "R":
+        return simple_result(row[NAME], a, n % MODULUS)
+    return long_result(row[NAME], a, b) if row[G] == 1 else simple_result(row[NAME], a, b)
+
+
+def simple_result(name, a, b):
+    """The result of a row of addi to and, b being n without its sign where the row has n."""
+    if name in ("addi", "add"):
+        return a + b
+    if name == "sub":
+        return a - b
+    if name in ("slti", "slt"):
+        return 1 if signed(a) < signed(b) else 0
+    if name in ("sltiu", "sltu"):
+        return 1 if a < b else 0
+    if name in ("xori", "xor"):
+        return a ^ b
+    if name in ("ori", "or"):
+        return a | b
+    if name in ("andi", "and"):
+        return a & b
+    if name in ("slli", "sll"):
+        return a << b % 32
+    return (a if name in ("srli", "srl") else signed(a)) >> b % 32
+
+
+def long_result(name, a, b):
+    """The result of a row of mul to remu."""
+    if name == "mul":
+        return a * b
+    if name == "mulh":
+        return signed(a) * signed(b) >> 32
+    if name == "mulhsu":
+        return signed(a) * b >> 32
+    if name == "mulhu":
+        return a * b >> 32
+    if name == "div":
+        return quotient(signed(a), signed(b))
+    if name == "divu":
+        return quotient(a, b)
+    return remainder(signed(a), signed(b)) if name == "rem" else remainder(a, b)
+
+
+def quotient(a, b):
+    """a by b, towards 0; by 0 the number that has all bits."""
+    if b == 0:
+        return -1
+    size = abs(a) // abs(b)
+    return size if (a < 0) == (b < 0) else -size
+
+
+def remainder(a, b):
+    """What the quotient leaves of a."""
+    return a if b == 0 else a - b * quotient(a, b)
